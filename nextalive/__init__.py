@@ -1,0 +1,1 @@
+"""Nextalive: services that move to the next living machine."""

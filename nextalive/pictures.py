@@ -1,0 +1,86 @@
+"""Pictures of a house, and what events make of them.
+
+A picture is a tuple (down, places). These functions follow points 5 to 8 from any picture,
+also from one that is not the end of a history, and change nothing.
+"""
+
+from nextalive.houses import is_machine
+
+NOWHERE = -1
+
+
+def beginning(house):
+    """The picture in which all machines are alive and all services at home."""
+    return (), tuple([order[0] for (weight, order, rule) in house.services()])
+
+
+def first_living(order, down):
+    """The first machine of the order that is not down, or NOWHERE."""
+    for machine in order:
+        if machine not in down:
+            return machine
+    return NOWHERE
+
+
+def can_fall(house, down, value):
+    """True if any value is a machine that lives when just these are down."""
+    return is_machine(value, len(house)) and value not in down
+
+
+def can_rise(house, down, value):
+    """True if any value is a machine that is down when just these are."""
+    return is_machine(value, len(house)) and value in down
+
+
+def can_come(house, down, value):
+    """True if any value is an event that can come when just these machines are down."""
+    if not isinstance(value, tuple) or len(value) != 2:
+        return False
+    word, machine = value
+    if word == "fall":
+        return can_fall(house, down, machine)
+    return word == "rise" and can_rise(house, down, machine)
+
+
+def down_behind(down, event):
+    """The ascending tuple of the machines that are down behind the event."""
+    word, machine = event
+    if word == "fall":
+        return tuple(sorted([*down, machine]))
+    return tuple([other for other in down if other != machine])
+
+
+def picture_behind(house, picture, event):
+    """The picture behind an event that can come next."""
+    down, places = picture
+    word, machine = event
+    left = down_behind(down, event)
+    pairs = list(zip(house.services(), places))
+    if word == "fall":
+        return left, tuple([_place_behind_fall(service, place, machine, left) for service, place in pairs])
+    return left, tuple([_place_behind_rise(service, place, machine) for service, place in pairs])
+
+
+def load_in(house, picture, machine):
+    """The sum of the weights of the services at the machine."""
+    places = picture[1]
+    return sum([service[0] for service, place in zip(house.services(), places) if place == machine])
+
+
+def _place_behind_fall(service, place, machine, down):
+    if place != machine:
+        return place
+    return first_living(service[1], down)
+
+
+def _place_behind_rise(service, place, machine):
+    _, order, rule = service
+    if machine not in order:
+        return place
+    if place == NOWHERE:
+        return machine
+    if rule == "first" and order.index(machine) < order.index(place):
+        return machine
+    if rule == "home" and machine == order[0]:
+        return machine
+    return place

@@ -1,0 +1,114 @@
+"""The form of the package: its files, its interface, and the rules of its language that are easy to count."""
+
+import ast
+import importlib
+import inspect
+import os
+import unittest
+
+ROOT = os.path.dirname(os.path.dirname(os.path.abspath(__file__)))
+PACKAGE = os.path.join(ROOT, "nextalive")
+LIBRARY = ("heapq", "math", "itertools", "collections")
+
+# The parameters of each function and method, as the document shows them.
+INTERFACE = {
+    "errors": {
+        "HouseError": None,
+        "BadHouse": "number",
+        "BadOrder": "order",
+        "NoFall": "machine",
+        "NoRise": "machine",
+        "TooManyDown": "most",
+        "NoWay": "needed",
+        "TooMany": "limit",
+        "Unlike": "sizes",
+        "NothingDone": "",
+    },
+    "houses": {
+        "House": "strengths, services",
+        "House.strengths": "self",
+        "House.services": "self",
+        "House.with_order": "self, service, order",
+        "House.__len__": "self",
+        "House.__eq__": "self, other",
+    },
+    "runs": {
+        "Run": "house",
+        "Run.fall": "self, machine",
+        "Run.rise": "self, machine",
+        "Run.picture": "self",
+        "Run.load": "self, machine",
+        "Run.events": "self",
+        "Run.fork": "self",
+        "run_of": "house, history",
+        "is_history": "house, value, *, most=5",
+    },
+}
+
+
+def package_files():
+    return sorted(name for name in os.listdir(PACKAGE) if name != "__pycache__")
+
+
+def text_of(name):
+    with open(os.path.join(PACKAGE, name), encoding="utf-8") as file:
+        return file.read()
+
+
+class InterfaceTest(unittest.TestCase):
+    def test_each_name_is_defined_in_its_file_and_class(self):
+        for file, names in INTERFACE.items():
+            module = importlib.import_module("nextalive." + file)
+            for name, told in names.items():
+                with self.subTest(file=file, name=name):
+                    owner, _, method = name.rpartition(".")
+                    found = vars(vars(module)[owner])[method] if owner else vars(module)[name]
+                    self.assertEqual(found.__module__, "nextalive." + file)
+                    if told is not None:
+                        self.assertEqual(str(inspect.signature(found)), "(" + told + ")")
+
+
+class LanguageTest(unittest.TestCase):
+    def test_files(self):
+        names = package_files()
+        self.assertIn("__init__.py", names)
+        for name in names:
+            with self.subTest(name=name):
+                self.assertRegex(name, r"\A[a-z_][a-z0-9_]*\.py\Z")
+
+    def test_characters_and_lengths(self):
+        for name in package_files():
+            with self.subTest(name=name):
+                lines = text_of(name).split("\n")
+                self.assertLess(len(lines), 400)
+                self.assertLessEqual(max(len(line) for line in lines), 120)
+                self.assertTrue(all(" " <= sign <= "~" for line in lines for sign in line))
+
+    def test_functions_have_at_most_forty_lines(self):
+        for name in package_files():
+            for node in ast.walk(ast.parse(text_of(name))):
+                if isinstance(node, (ast.FunctionDef, ast.Lambda)):
+                    with self.subTest(name=name, line=node.lineno):
+                        self.assertLessEqual(node.end_lineno - node.lineno + 1, 40)
+
+    def test_imports(self):
+        for name in package_files():
+            for node in ast.walk(ast.parse(text_of(name))):
+                with self.subTest(name=name):
+                    self.assertNotIsInstance(node, ast.Import)
+                    if isinstance(node, ast.ImportFrom):
+                        self.assertTrue(node.module.startswith("nextalive.") or node.module in LIBRARY)
+                        self.assertEqual((node.level, [part.asname for part in node.names if part.asname]), (0, []))
+
+    def test_nothing_that_the_language_leaves_out(self):
+        barred = (ast.AsyncFunctionDef, ast.AsyncFor, ast.AsyncWith, ast.Await)
+        for name in package_files():
+            for node in ast.walk(ast.parse(text_of(name))):
+                with self.subTest(name=name):
+                    self.assertNotIsInstance(node, barred)
+                    self.assertFalse(isinstance(node, ast.Constant) and isinstance(node.value, float))
+                    self.assertFalse(isinstance(node, ast.BinOp) and isinstance(node.op, ast.Div))
+
+
+if __name__ == "__main__":
+    unittest.main()
