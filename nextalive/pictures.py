@@ -4,7 +4,8 @@ A picture is a tuple (down, places). These functions follow points 5 to 8 from a
 also from one that is not the end of a history, and change nothing.
 """
 
-from nextalive.houses import is_machine
+from nextalive.houses import is_machine, is_whole
+from nextalive.lots import is_lot
 
 NOWHERE = -1
 
@@ -20,6 +21,14 @@ def first_living(order, down):
         if machine not in down:
             return machine
     return NOWHERE
+
+
+def is_picture(house, value):
+    """True if any value is a picture of the house, also one that is the end of no history."""
+    if not isinstance(value, tuple) or len(value) != 2:
+        return False
+    down, places = value
+    return is_lot(down, len(house)) and _are_places(house.services(), down, places)
 
 
 def can_fall(house, down, value):
@@ -50,31 +59,12 @@ def down_behind(down, event):
     return tuple([other for other in down if other != machine])
 
 
-def picture_behind(house, picture, event):
-    """The picture behind an event that can come next."""
-    down, places = picture
+def place_behind(service, place, event, left):
+    """The place of a service behind an event behind which just the machines in left are down."""
     word, machine = event
-    left = down_behind(down, event)
-    pairs = list(zip(house.services(), places))
-    if word == "fall":
-        return left, tuple([_place_behind_fall(service, place, machine, left) for service, place in pairs])
-    return left, tuple([_place_behind_rise(service, place, machine) for service, place in pairs])
-
-
-def load_in(house, picture, machine):
-    """The sum of the weights of the services at the machine."""
-    places = picture[1]
-    return sum([service[0] for service, place in zip(house.services(), places) if place == machine])
-
-
-def _place_behind_fall(service, place, machine, down):
-    if place != machine:
-        return place
-    return first_living(service[1], down)
-
-
-def _place_behind_rise(service, place, machine):
     _, order, rule = service
+    if word == "fall":
+        return first_living(order, left) if place == machine else place
     if machine not in order:
         return place
     if place == NOWHERE:
@@ -84,3 +74,27 @@ def _place_behind_rise(service, place, machine):
     if rule == "home" and machine == order[0]:
         return machine
     return place
+
+
+def picture_behind(house, picture, event):
+    """The picture behind an event that can come next."""
+    down, places = picture
+    left = down_behind(down, event)
+    pairs = list(zip(house.services(), places))
+    return left, tuple([place_behind(service, place, event, left) for service, place in pairs])
+
+
+def load_in(house, picture, machine):
+    """The sum of the weights of the services at the machine."""
+    places = picture[1]
+    return sum([service[0] for service, place in zip(house.services(), places) if place == machine])
+
+
+def _are_places(services, down, value):
+    if not isinstance(value, tuple) or len(value) != len(services):
+        return False
+    return all([_is_place(service[1], down, place) for service, place in zip(services, value)])
+
+
+def _is_place(order, down, value):
+    return is_whole(value) and (value == NOWHERE or (value in order and value not in down))

@@ -43,6 +43,45 @@ INTERFACE = {
         "run_of": "house, history",
         "is_history": "house, value, *, most=5",
     },
+    "places": {
+        "can_be": "house, service, place, most",
+        "least_events": "house, service, place",
+        "way_to": "house, service, place, most",
+    },
+    "behind": {
+        "behind": "house, service, down, most",
+        "history_to": "house, service, down, place, most",
+        "is_settled": "house, most",
+        "unsettled": "house, most",
+    },
+    "worst": {
+        "gather": "house, machine, services, most",
+        "is_bar": "house, machine, most, value",
+        "worst_load": "house, machine, most",
+        "worst_loads": "house, most",
+        "unsafe": "house, most",
+        "margin": "house",
+    },
+    "tables": {
+        "Table": "house, most, *, limit=400",
+        "Table.pictures": "self",
+        "Table.number_of": "self, picture",
+        "Table.run_to": "self, picture",
+        "is_closed": "house, most, value",
+    },
+    "forms": {
+        "short_form": "house, service, most",
+        "parting": "house, other, most",
+    },
+    "moves": {
+        "moves": "house, service, history",
+        "most_moves": "house, service, events, most",
+        "moving": "house, service, events, most",
+    },
+    "surges": {
+        "surge": "house, history, machines",
+        "worst_surge": "house, most",
+    },
 }
 
 
