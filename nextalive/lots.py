@@ -1,6 +1,6 @@
-"""Lots: ascending tuples of different numbers from 0, of machines or of services."""
+"""Lots, ascending tuples of different numbers from 0, of machines or of services; and orders of them."""
 
-from itertools import combinations
+from itertools import combinations, permutations
 
 from nextalive.houses import is_whole
 
@@ -17,9 +17,19 @@ def is_lot(value, things):
     return True
 
 
+def all_lots(things):
+    """All lots of so many things, the empty one among them, in the row of lots_up_to."""
+    return lots_up_to(things, things)
+
+
 def lots_up_to(things, most):
     """All lots of at most most of so many things: shorter ones first, equally long ones in ascending order."""
     found = []
     for many in range(min(things, most) + 1):
         found.extend(list(combinations(range(things), many)))
     return found
+
+
+def orders_of(things, many):
+    """All orders of so many of these things, in ascending order."""
+    return list(permutations(range(things), many))

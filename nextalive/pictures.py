@@ -84,6 +84,14 @@ def picture_behind(house, picture, event):
     return left, tuple([place_behind(service, place, event, left) for service, place in pairs])
 
 
+def pictures_through(house, events):
+    """The list of the pictures of the beginning and behind each of the events of a history."""
+    found = [beginning(house)]
+    for event in events:
+        found.append(picture_behind(house, found[-1], event))
+    return found
+
+
 def load_in(house, picture, machine):
     """The sum of the weights of the services at the machine."""
     places = picture[1]

@@ -36,3 +36,8 @@ def steps_to(ways, thing):
         steps.append(step)
         _, before, step = ways[before]
     return steps[::-1]
+
+
+def keeps_steps(kept, steps):
+    """True if all that the steps, tuples (step, what is there behind it), lead to is among what is kept, a dict."""
+    return all([after in kept for _, after in steps])

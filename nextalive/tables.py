@@ -1,7 +1,7 @@
 """The table of all pictures to which histories lead, and lists of pictures that are closed (point 14)."""
 
 from nextalive.pictures import beginning, is_picture
-from nextalive.search import steps_to, ways_from
+from nextalive.search import keeps_steps, steps_to, ways_from
 from nextalive.steps import Steps
 
 
@@ -41,8 +41,4 @@ def is_closed(house, most, value):
     if beginning(house) not in kept:
         return False
     steps = Steps(house, most)
-    return all([_keeps_steps(kept, steps.next_of(picture)) for picture in value])
-
-
-def _keeps_steps(kept, steps):
-    return all([after in kept for _, after in steps])
+    return all([keeps_steps(kept, steps.next_of(picture)) for picture in value])
