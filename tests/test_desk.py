@@ -177,7 +177,8 @@ class DeskTest(Checks):
 
     def test_hundreds_of_changes(self):
         source = random.Random(53)
-        house = House([9] * 5, [(at + 1, tuple((at + step) % 5 for step in range(5)), RULES[at % 3]) for at in range(5)])
+        rows = [(at + 1, tuple((at + step) % 5 for step in range(5)), RULES[at % 3]) for at in range(5)]
+        house = House([9] * 5, rows)
         desk, stands = self.led(house, 3, 700, source)
         self.assertEqual(len(desk), 700)
         while len(stands) > 1:
@@ -363,7 +364,8 @@ class ErrorTest(Checks):
                 desk.fall(machine)
                 stands.append(changed(*stands[-1], ("fall", machine)))
             for machine in range(most, 4):
-                self.check_refused(desk, stands, lambda machine=machine: desk.fall(machine), TooManyDown, {"most": most})
+                call = lambda machine=machine: desk.fall(machine)
+                self.check_refused(desk, stands, call, TooManyDown, {"most": most})
             for value in (True, -1, 4, "0", *range(most)):
                 self.check_refused(desk, stands, lambda value=value: desk.fall(value), NoFall, {"machine": value})
             if most > 0:

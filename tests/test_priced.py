@@ -352,7 +352,8 @@ class PlainTest(unittest.TestCase):
     def test_lists_are_new_each_time_and_nothing_is_changed(self):
         house, prices, history = self.house, self.prices, [("fall", 1), ("rise", 1)]
         kept = copy.deepcopy((house, prices, history))
-        calls = [lambda: gather_priced(house, 2, (0, 1), prices, 9)[1], lambda: gather_priced(house, 2, (), prices, 0)[1],
+        calls = [lambda: gather_priced(house, 2, (0, 1), prices, 9)[1],
+                 lambda: gather_priced(house, 2, (), prices, 0)[1],
                  lambda: worst_priced(house, 2, prices, 9)[1], lambda: worst_priced(house, 2, prices, 0)[1],
                  lambda: breaking_purse(house, 2, prices)[1]]
         for call in calls:

@@ -200,7 +200,8 @@ class RollingTest(unittest.TestCase):
 
     def test_limit_left_out_is_four_thousand(self):
         orders = [(1, 0, 2, 3, 4), (1, 4, 2, 3, 0), (4, 0, 2, 3, 1), (1, 4, 0, 3, 2)]
-        few, many = [House([9] * 5, [(1, order, "stay") for order in orders + more]) for more in ([], [(0, 2, 3, 4, 1)])]
+        few = House([9] * 5, [(1, order, "stay") for order in orders])
+        many = House([9] * 5, [*few.services(), (1, (0, 2, 3, 4, 1), "stay")])
         self.assertLessEqual(len(standings(few, 5)), 4000)
         self.assertEqual(rolling(few, 5)[0], "yes")
         self.assertGreater(len(standings(many, 5)), 4000)
@@ -294,7 +295,8 @@ class IsBarringTest(unittest.TestCase):
                 source.shuffle(value)
                 values = [value, value + source.sample(everything, 1), value + value[:1]]
                 values += [value[:at] + value[at + 1:] for at in range(min(6, len(value)))]
-                values += [value[:at] + source.sample(everything, 1) + value[at + 1:] for at in range(min(3, len(value)))]
+                for at in range(min(3, len(value))):
+                    values += [value[:at] + source.sample(everything, 1) + value[at + 1:]]
                 for one in values:
                     told = told_barring(house, most, one)
                     self.assertIs(is_barring(house, most, one), told, (house.services(), most, one))

@@ -171,7 +171,7 @@ class Checks(unittest.TestCase):
         return "no", None
 
     def do_any(self, source, house, most, steering, stands):
-        """One deed, or one that is undone; stands is the list of the pictures, each with whether it is behind an event."""
+        """One deed, or one undone; stands is the list of the pictures, each with whether it is behind an event."""
         picture, is_event = stands[-1]
         events = next_events(house, picture, most)
         offers = told_carries(house, picture)[1:] if is_event else []
@@ -281,7 +281,8 @@ class IsKeepingTest(unittest.TestCase):
                     values = [value + source.sample(everything, 1), value + value[:1]]
                     for _ in range(6):
                         at = source.randrange(len(value))
-                        values += [value[:at] + value[at + 1:], value[:at] + source.sample(everything, 1) + value[at + 1:]]
+                        for put in ([], source.sample(everything, 1)):
+                            values.append(value[:at] + put + value[at + 1:])
                     for one in values:
                         told = told_keeping(house, most, one)
                         self.assertIs(is_keeping(house, most, one), told, (house.services(), most, one))
@@ -366,7 +367,7 @@ class IsBreakingTest(unittest.TestCase):
                         rank, event = value[picture]
                         other = source.choice(next_events(house, picture, 9))
                         values += [{one: value[one] for one in value if one != picture}]
-                        values += [{**value, picture: row} for row in ((rank + 1, event), (rank - 1, event), (0, event))]
+                        values += [{**value, picture: (other_rank, event)} for other_rank in (rank + 1, rank - 1, 0)]
                         values += [{**value, picture: (rank, other)}, {**value, picture: (10 ** 40, event)}]
                         values += [{**value, source.choice(everything): (99, other)}]
                     for one in values:
@@ -682,8 +683,9 @@ class PlainTest(unittest.TestCase):
 
     def test_lists_are_new_each_time_and_nothing_is_changed(self):
         kept = copy.deepcopy((self.house, self.other))
+        heavy = House([3, 9], self.other.services())
         calls = [lambda: carries(self.house, ((), (0, 1))), lambda: steered(self.house, 1)[1]]
-        for call in [*calls, lambda: steered(self.other, 1)[1], lambda: steered(House([3], self.other.services()[:0]), 1)[1]]:
+        for call in [*calls, lambda: steered(self.other, 1)[1], lambda: steered(heavy, 1)[1]]:
             one, two = call(), call()
             self.assertEqual(one, two)
             self.assertIsNot(one, two)

@@ -346,7 +346,7 @@ class AreNumbersTest(unittest.TestCase):
             self.assertIs(are_numbers(house, 1, mean, value), False)
 
     def near_keys(self, down, places):
-        """Keys that are near a picture and are none, or one that the table has not; equal ones with bools among them."""
+        """Keys that are near a picture and are none, equal ones with bools among them, or pictures of no table."""
         near = [(places, down), (down,), (down, places, ()), (down, places[:1]), (down, (*places, 0)), (down, (9, 9))]
         near += [(tuple(bool(machine) for machine in down), places)] if down else []
         near += [(down, tuple(bool(place) for place in places)), (down, (bool(places[0]), places[1])), down, 0]
