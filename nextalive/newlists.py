@@ -19,7 +19,7 @@ def fitting(house, weight, rule, most):
 
 def room(house, order, rule, most):
     """The greatest weight with which such a service fits at the machines where it can be; 0 if there is none."""
-    return min(MOST_WEIGHT, max(0, _free_weight(house, order, rule, most)))
+    return min(MOST_WEIGHT, _free_weight(house, order, rule, most))
 
 
 def mending(house, service, most):
@@ -30,7 +30,7 @@ def mending(house, service, most):
 
 
 def _free_weight(house, order, rule, most):
-    """The greatest weight for which the machines bear the service; below 1 if there is none."""
+    """The greatest weight for which the machines where the service can be bear it; 0 if there is none."""
     return min([_free_at(house, machine, order, rule, most) for machine in order[:most + 1]])
 
 

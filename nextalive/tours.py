@@ -3,7 +3,7 @@
 from nextalive.errors import NoWay
 from nextalive.houses import is_whole
 from nextalive.means import greatest_round, mean_of
-from nextalive.pictures import is_picture, picture_behind, pictures_through
+from nextalive.pictures import picture_behind, pictures_through
 from nextalive.runs import is_history, run_of
 from nextalive.steps import Steps
 from nextalive.tables import Table
@@ -53,9 +53,9 @@ def are_numbers(house, most, mean, value, *, limit=400):
     pictures = table.pictures()
     if not isinstance(value, dict) or len(value) != len(pictures):
         return False
-    # True == 1, so it does not suffice that the pictures of the table are keys.
+    # True == 1, so it does not suffice that the pictures of the table are keys: each key is looked at itself.
     for picture, number in value.items():
-        if not is_picture(house, picture) or table.number_of(picture) is None or not is_whole(number):
+        if table.number_of(picture) is None or not is_whole(number):
             return False
     numbers = [value[picture] for picture in pictures]
     p, q = mean
